@@ -1,0 +1,1 @@
+"""Legseats: seats sold from stop to stop."""
