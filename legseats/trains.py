@@ -1,6 +1,6 @@
 """Trains, whose seats are sold for stretches between stops."""
 
-from legseats.errors import Full, NoLeg, NoSeat, NoStop, NoStretch, NoTicket, NoTrain
+from legseats.errors import Full, NoLeg, NoSeat, NoStop, NoStretch, NoTicket, NoTrain, Shared
 
 LEAST_SEATS = 1
 MOST_SEATS = 60
@@ -45,7 +45,7 @@ class Train:
     def leave(self, ticket, stop):
         """Leave a ticket at a stop; the list of the parts that are free again."""
         parts = self.parts(ticket)
-        first, last = _ends(parts)
+        first, last = stretch_of(parts)
         if not first < stop < last:
             raise NoStop("the stop does not lie within the ticket's stretch")
         freed = [(seat, max(begin, stop), end) for seat, begin, end in parts if end > stop]
@@ -57,7 +57,7 @@ class Train:
     def reseat(self, ticket):
         """Seat a ticket anew; the list of its parts."""
         parts = self.parts(ticket)
-        begin, end = _ends(parts)
+        begin, end = stretch_of(parts)
         # Its own seats must be free first: it may keep them, and they make
         # sure that the stretch is not blocked.
         self._mark(parts, None)
@@ -83,8 +83,7 @@ class Train:
 
     def blocked(self, begin, end):
         """The first leg of a stretch on which no seat is free, or None."""
-        if not 0 <= begin < end < self._stops:
-            raise NoStretch("the two stops are no stretch of this train")
+        self._check_stretch(begin, end)
         for leg in range(begin, end):
             if self.load(leg) == self._seats:
                 return leg
@@ -116,6 +115,25 @@ class Train:
         """The numbers of seats and of stops."""
         return self._seats, self._stops
 
+    def next_number(self):
+        """The number of the ticket that is sold next."""
+        return self._next
+
+    def set_next_number(self, number):
+        """Let the ticket that is sold next have this number, above all others."""
+        self._next = number
+
+    def enter(self, ticket, parts):
+        """Enter a ticket that was sold before, under its number and with its parts.
+
+        Refuses part by part with NoSeat, then with NoStretch, then with Shared.
+        """
+        ahead = None
+        for part in parts:
+            self._check_part(part, ahead)
+            ahead = part
+        self._seat(ticket, list(parts))
+
     def _check_seat(self, seat):
         if not 0 <= seat < self._seats:
             raise NoSeat("there is no such seat")
@@ -123,6 +141,20 @@ class Train:
     def _check_leg(self, leg):
         if not 0 <= leg < self._legs:
             raise NoLeg("there is no such leg")
+
+    def _check_stretch(self, begin, end):
+        if not 0 <= begin < end < self._stops:
+            raise NoStretch("the two stops are no stretch of this train")
+
+    def _check_part(self, part, ahead):
+        """Check a part of a ticket, behind the part ahead of it, or None."""
+        seat, begin, end = part
+        self._check_seat(seat)
+        self._check_stretch(begin, end)
+        if ahead is not None and (begin != ahead[2] or seat == ahead[0]):
+            raise NoStretch("a part goes on where the one ahead ends, on another seat")
+        if self.farthest(seat, begin) < end:
+            raise Shared("the seat is held on a leg of the part")
 
     def _found(self, begin, end):
         """The parts of a stretch, which must not be blocked."""
@@ -157,6 +189,6 @@ class Train:
                 self._held[seat][leg] = holder
 
 
-def _ends(parts):
+def stretch_of(parts):
     """The begin and the end of the stretch that these parts make."""
     return parts[0][1], parts[-1][2]

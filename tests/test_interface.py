@@ -6,7 +6,7 @@ import os
 import unittest
 
 import legseats
-from legseats import errors, trains
+from legseats import errors, notes, packing, trains
 
 REFUSALS = ["NoTrain", "NoStretch", "NoSeat", "NoStop", "NoLeg", "NoTicket", "Full", "Shared", "NoText"]
 METHODS = {
@@ -78,6 +78,24 @@ class Trains(unittest.TestCase):
         self.assertEqual(train.holder(seat=0, leg=1), 0)
         self.assertEqual(train.load(leg=1), 1)
         self.assertEqual(train.back(ticket=0), [(0, 0, 2)])
+
+
+class PackingAndNotes(unittest.TestCase):
+    def test_each_function_is_defined_in_its_file(self):
+        for module, name, wanted in [
+            (packing, "packed", ["train"]), (notes, "written", ["train"]), (notes, "read", ["text"])
+        ]:
+            with self.subTest(name):
+                function = vars(module)[name]
+                self.assertTrue(inspect.isfunction(function))
+                self.assertEqual(function.__module__, module.__name__)
+                self.assertEqual(list(inspect.signature(function).parameters), wanted)
+
+    def test_arguments_are_taken_by_their_names(self):
+        train = notes.read(text="train 2 4 3\nticket 1 1 0 3")
+        self.assertIs(type(train), trains.Train)
+        self.assertEqual(packing.packed(train=train), [(1, 0)])
+        self.assertEqual(notes.written(train=train), "train 2 4 3\nticket 1 1 0 3")
 
 
 class NoClockNoChanceNoFiles(unittest.TestCase):
